@@ -806,7 +806,7 @@ func TestPacketReadExamples(t *testing.T) {
 }
 
 // faultyFrames has frames for each code that the layers can return, most of
-// them with errors of later codes beside it. A frame is too short for FourLong,
+// them with errors of later codes beside it. A Body is too short for FourLong,
 // SixLong and UpLong, and UpAddr cannot follow from addresses that were read.
 func faultyFrames() map[int][][]byte {
 	list := map[int][][]byte{}
